@@ -1,0 +1,1 @@
+"""Shapes of land in files."""
