@@ -33,7 +33,16 @@ def box_of(points):
     return [min(xs, key=exact), min(ys, key=exact), max(xs, key=exact), max(ys, key=exact)]
 
 
+def exact_point(point):
+    return (exact(point[0]), exact(point[1]))
+
+
+# The ends are exact, so that nothing that is worked out from a way is rounded.
+def ways(points):
+    ends = [exact_point(point) for point in points]
+    return list(zip(ends, ends[1:]))
+
+
 # A product of two exact values: this is counted in 2^-2148.
 def goes_round(ring):
-    corners = [(exact(point[0]), exact(point[1])) for point in ring]
-    return sum([a[0] * b[1] - b[0] * a[1] for a, b in zip(corners, corners[1:])])
+    return sum([start[0] * end[1] - end[0] * start[1] for start, end in ways(ring)])

@@ -8,12 +8,19 @@ from landshapes.shapes import answers
 BEGIN = [0]
 COUNT = [2]
 REFUSED = [-1]
+OF_NOTHING = [-2]
 NO_FILE = [-4]
+
+# The ends of what's handed over as a whole number.
+LEAST = -2147483648
+GREATEST = 2147483647
 
 NAN = struct.unpack("<d", struct.pack("<Q", 0x7FF8000000000000))[0]
 INFINITY = float("inf")
 FARTHEST = 2.0 ** 40
 BEYOND = FARTHEST + 2.0 ** -12
+# The smallest double above 0.
+TINY = 2.0 ** -1074
 
 TRIANGLE = [(0.0, 0.0), (0.0, 4.0), (3.0, 0.0), (0.0, 0.0)]
 SQUARE = [(10.0, 10.0), (10.0, 12.0), (12.0, 12.0), (12.0, 10.0), (10.0, 10.0)]
@@ -85,12 +92,37 @@ def double(value):
     return struct.pack("<d", value)
 
 
+def bits(value):
+    return struct.unpack("<Q", double(value))[0]
+
+
+def rectangle(left, low_y, right, high_y):
+    """A ring to the right."""
+    return [(left, low_y), (left, high_y), (right, high_y), (right, low_y), (left, low_y)]
+
+
 def opening(data):
     return [1, len(data), *data]
 
 
 def about(k):
     return [3, k]
+
+
+def box_call(k):
+    return [4, k]
+
+
+def part_call(k, part, start, most):
+    return [5, k, part, start, most]
+
+
+def at_call(x, y, most=65536):
+    return [6, bits(x), bits(y), most]
+
+
+def area_call(k):
+    return [7, k]
 
 
 def ask(*calls):

@@ -3,15 +3,18 @@
 import unittest
 
 from landshapes.shapes import answers
-from tests.helper import TRIANGLE, file_of, opening
+from tests.helper import TRIANGLE, area_call, at_call, bits, box_call, file_of, opening, part_call
 
 
 class Form(unittest.TestCase):
     def setUp(self):
         area = file_of(5, [[TRIANGLE], None])
-        self.calls = [2, *opening(area), 2, 3, 0, 3, 1, 3, 2, *opening(b"\0"), 2, 0, 2, *opening(area), 3, 0]
-        self.calls = [0] + self.calls
+        self.calls = [0, 2, *opening(area), 2, 3, 0, 3, 1, 3, 2, *opening(b"\0"), 2, 0, 2, *opening(area), 3, 0]
         self.told = [1, 0, 1, -4, 1, 0, 1, 2, 3, 5, 1, 4, 3, 0, 0, 0, 1, -1, 1, -1, 1, 2, 1, 0, 1, -4, 1, 0, 3, 5, 1, 4]
+        self.calls += box_call(0) + box_call(1) + part_call(0, 0, 1, 2) + part_call(1, 0, 0, 1) + part_call(0, 0, 9, 1)
+        self.told += [5, 0, 0, 0, bits(3.0), bits(4.0), 1, -2, 5, 2, 0, bits(4.0), bits(3.0), 0, 1, -1, 1, 0]
+        self.calls += at_call(1.0, 1.0) + at_call(9.0, 1.0) + at_call(-0.0, 1.0) + area_call(0) + area_call(1) + [7, 2]
+        self.told += [2, 1, 0, 1, 0, 1, -1, 2, 0, bits(6.0), 2, 0, 0, 1, -1]
 
     def test_no_calls(self):
         self.assertEqual(answers([]), [])
@@ -34,14 +37,9 @@ class Form(unittest.TestCase):
 
     def test_nothing_is_kept(self):
         self.assertEqual(answers(self.calls), self.told)
-        self.assertEqual(answers([0, 2, 3, 0]), [1, 0, 1, -4, 1, -4])
+        self.assertEqual(answers([0, 2, 3, 0, 7, 0]), [1, 0, 1, -4, 1, -4, 1, -4])
         self.assertEqual(answers(self.calls), self.told)
 
     def test_what_is_given_back_is_new_each_time(self):
         answers(self.calls).clear()
         self.assertEqual(answers(self.calls), self.told)
-
-    def test_two_hundred_calls(self):
-        data = opening(file_of(1, [(1.0, 1.0)] * 500))
-        told = answers([0, *data] + [2] * 98 + [3, 499] * 100)
-        self.assertEqual(told, [1, 0, 1, 0] + [1, 500] * 98 + [3, 1, 1, 1] * 100)

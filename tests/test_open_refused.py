@@ -211,7 +211,8 @@ class Parts(Refusing):
 
     def test_places_of_lines(self):
         shape = [WAY, OTHER_WAY]
-        for places in ([1, 2], [2, 0], [0, 0], [0, 4], [0, 5], [2, 2], [0, 2 ** 31], [0, 2 ** 32 - 1], [2 ** 32 - 4, 2]):
+        large = ([0, 2 ** 31], [0, 2 ** 32 - 1], [2 ** 32 - 4, 2])
+        for places in ([1, 2], [2, 0], [0, 0], [0, 4], [0, 5], [2, 2], *large):
             self.assert_told_refused(3, shape, places=places)
         three = [WAY, OTHER_WAY, WAY]
         for places in ([0, 4, 2], [0, 2, 2], [0, 4, 4], [0, 2, 6], [0, 0, 4], [2, 2, 4]):
